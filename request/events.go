@@ -18,24 +18,22 @@ func Join(l []api.Event) []api.Event {
 }
 
 // add lays an event behind others, which it may change: bytes of a body go to
-// those that stand there already.
+// those that stand there already. Of such events nothing but their bytes is
+// left, as what else one has does not hold for all of them.
 func add(l []api.Event, e api.Event) []api.Event {
 	last := len(l) - 1
 	if e.Kind == api.EBody && last >= 0 && l[last].Kind == api.EBody {
-		l[last].Bytes = append(l[last].Bytes, e.Bytes...)
+		l[last] = api.Event{Kind: api.EBody, Bytes: append(l[last].Bytes, e.Bytes...)}
 		return l
 	}
 	return append(l, e)
 }
 
-// clone answers an event that shares no memory with e. Of bytes of a body
-// nothing else is told, as they may come to be one with others.
+// clone answers an event that shares no memory with e.
 func clone(e api.Event) api.Event {
-	came := slices.Clone(e.Bytes)
-	if e.Kind == api.EBody {
-		return api.Event{Kind: api.EBody, Bytes: came}
-	}
-	return api.Event{Kind: e.Kind, Head: cloneHead(e.Head), Bytes: came, Part: clonePart(e.Part), Code: e.Code}
+	e.Head, e.Part = cloneHead(e.Head), clonePart(e.Part)
+	e.Bytes = slices.Clone(e.Bytes)
+	return e
 }
 
 func cloneHead(h api.Head) api.Head {

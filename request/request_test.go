@@ -864,35 +864,90 @@ func full(kind int) api.Event {
 	}
 }
 
-// Events of other kinds, also of forms and of none, stay as they are; bytes of
-// a body are told with nothing else.
+// Events of other kinds, also of forms and of none, stay as they are, whatever
+// they have, beside bodies, too.
 func TestJoinOfOtherKinds(t *testing.T) {
-	for _, kind := range []int{0, api.EHead, api.EEnd, api.EFail, api.EPart, api.EOver, 7, -1} {
+	for _, kind := range otherKinds() {
 		l := []api.Event{full(kind), full(kind), body("a"), body("b"), full(kind)}
 		want := []api.Event{full(kind), full(kind), body("ab"), full(kind)}
 		if got := Join(l); fmt.Sprint(got) != fmt.Sprint(want) {
 			t.Errorf("kind %d: %v, want %v", kind, got, want)
 		}
 	}
-	for n := 1; n < 4; n++ {
-		got := Join(slices.Repeat([]api.Event{full(api.EBody)}, n))
-		if show(got) != bodyText(strings.Repeat("bytes", n)) {
-			t.Errorf("%d of a body with more than bytes: %v", n, got)
+}
+
+func otherKinds() []int {
+	return []int{0, api.EHead, api.EEnd, api.EFail, api.EPart, api.EOver, 7, -1}
+}
+
+// bodies: events with bytes of a body and each of what else an event may have.
+func bodies() []api.Event {
+	all := full(api.EBody)
+	return []api.Event{
+		all, {Kind: api.EBody, Code: 5}, {Kind: api.EBody, Code: -1, Bytes: []byte("ab")},
+		{Kind: api.EBody, Head: all.Head}, {Kind: api.EBody, Bytes: []byte("ab"), Head: api.Head{Method: "GET"}},
+		{Kind: api.EBody, Head: api.Head{Target: "/"}}, {Kind: api.EBody, Head: api.Head{Minor: 1}}, {Kind: api.EBody, Head: api.Head{Length: -1}},
+		{Kind: api.EBody, Head: api.Head{Fields: []api.Field{{}}}},
+		{Kind: api.EBody, Part: all.Part}, {Kind: api.EBody, Bytes: []byte("ab"), Part: api.Part{Name: "n"}},
+		{Kind: api.EBody, Part: api.Part{File: "f"}}, {Kind: api.EBody, Part: api.Part{Type: "y"}}, {Kind: api.EBody, Part: api.Part{Bytes: []byte("c")}},
+		body(""), body("ab"),
+	}
+}
+
+// A body with no other beside it stays as it is, whatever it has.
+func TestJoinOfABodyAlone(t *testing.T) {
+	for _, e := range bodies() {
+		if got := Join([]api.Event{e}); fmt.Sprint(got) != fmt.Sprint([]api.Event{e}) {
+			t.Errorf("%v alone: %v", e, got)
 		}
+		for _, kind := range otherKinds() {
+			o := full(kind)
+			for _, l := range [][]api.Event{{o, e}, {e, o}, {o, e, o}, {e, o, e}, {e, o, o, e, o, e}} {
+				if got := Join(l); fmt.Sprint(got) != fmt.Sprint(l) {
+					t.Errorf("Join of %v: %v", l, got)
+				}
+			}
+			// One that is alone, ahead of those that are joined and behind them.
+			l := []api.Event{e, o, e, e, o, e}
+			want := []api.Event{e, o, body(strings.Repeat(string(e.Bytes), 2)), o, e}
+			if got := Join(l); fmt.Sprint(got) != fmt.Sprint(want) {
+				t.Errorf("Join of %v: %v, want %v", l, got, want)
+			}
+		}
+	}
+}
+
+// Of bodies that stand one behind the other nothing but bytes is left,
+// whichever of them has more, and also if some have no bytes.
+func TestJoinOfBodiesWithMore(t *testing.T) {
+	for _, a := range bodies() {
+		for _, b := range bodies() {
+			if got := show(Join([]api.Event{a, b})); got != bodyText(string(a.Bytes)+string(b.Bytes)) {
+				t.Errorf("%v and %v: %s", a, b, got)
+			}
+			for _, c := range bodies() {
+				if got := show(Join([]api.Event{a, b, c})); got != bodyText(string(a.Bytes)+string(b.Bytes)+string(c.Bytes)) {
+					t.Errorf("%v, %v and %v: %s", a, b, c, got)
+				}
+			}
+		}
+	}
+	if got := show(Join(bodies())); got != bodyText("bytesabababab") {
+		t.Errorf("all bodies: %s", got)
 	}
 }
 
 func TestJoinLeavesWhatIsHandedIn(t *testing.T) {
 	memory := []byte("abcdef")
 	l := []api.Event{
-		{Kind: api.EBody, Bytes: memory[:2]}, {Kind: api.EBody, Bytes: memory[4:5]}, full(api.EHead), full(api.EPart), body("last"),
+		{Kind: api.EBody, Bytes: memory[:2]}, {Kind: api.EBody, Bytes: memory[4:5]}, full(api.EHead), full(api.EPart), full(api.EBody), body("last"),
 	}
 	before := fmt.Sprint(l)
-	got := Join(l[:4])
+	got := Join(l[:5])
 	if fmt.Sprint(l) != before || string(memory) != "abcdef" {
 		t.Errorf("what was handed in became %v, %q", l, memory)
 	}
-	want := fmt.Sprint([]api.Event{body("abe"), full(api.EHead), full(api.EPart)})
+	want := fmt.Sprint([]api.Event{body("abe"), full(api.EHead), full(api.EPart), full(api.EBody)})
 	clear(memory)
 	for _, e := range l {
 		clear(e.Bytes)
@@ -907,7 +962,7 @@ func TestJoinLeavesWhatIsHandedIn(t *testing.T) {
 	clear(append(got[1].Bytes, "more"...))
 	got[1].Head.Fields = append(got[1].Head.Fields, api.Field{})
 	clear(got[1].Head.Fields)
-	if fmt.Sprint(got[2:]) != fmt.Sprint([]api.Event{full(api.EPart)}) {
+	if fmt.Sprint(got[2:]) != fmt.Sprint([]api.Event{full(api.EPart), full(api.EBody)}) {
 		t.Errorf("events of one answer share memory: %v", got)
 	}
 }
